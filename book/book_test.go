@@ -6,6 +6,7 @@ import (
 	"encoding/binary"
 	"encoding/hex"
 	"maps"
+	"math"
 	"math/rand"
 	"slices"
 	"strconv"
@@ -409,6 +410,18 @@ func TestRootOfEverySize(t *testing.T) {
 		if got, want := mustRoot(t, l), referenceRoot(l); !bytes.Equal(got, want) {
 			t.Errorf("%d pairs: %x comes, not %x", n, got, want)
 		}
+	}
+}
+
+// D2: what other layers take from here answers whatever it is given (Z1).
+func TestSplit(t *testing.T) {
+	for n, want := range map[int]int{math.MinInt: 0, -1: 0, 0: 0, 1: 0, 2: 1, 3: 2, 4: 2, 5: 4, 8: 4, 9: 8, 200: 128, math.MaxInt: 1 << 62} {
+		if got := Split(n); got != want {
+			t.Errorf("%d: %d comes, not %d", n, got, want)
+		}
+	}
+	if len(Tree(nil)) != 0 {
+		t.Error("no pairs have a tree")
 	}
 }
 

@@ -20,35 +20,41 @@ func Root(l []api.Pair) ([]byte, api.Fault) {
 	if f := Wrong(l); f.Err != api.OK {
 		return nil, f
 	}
-	return sha.Sum(bookBytes(len(l), tree(l))), api.Fault{}
+	return sha.Sum(BookBytes(len(l), Tree(l))), api.Fault{}
 }
 
-// tree answers nothing for no pairs.
-func tree(l []api.Pair) []byte {
+// Tree answers the digest of l's pairs, in the order in which they stand: nothing for no pairs.
+func Tree(l []api.Pair) []byte {
 	switch len(l) {
 	case 0:
 		return nil
 	case 1:
-		return sha.Sum(pairBytes(l[0]))
+		return sha.Sum(PairBytes(l[0]))
 	}
-	k := split(len(l))
-	return sha.Sum(forkBytes(tree(l[:k]), tree(l[k:])))
+	k := Split(len(l))
+	return sha.Sum(ForkBytes(Tree(l[:k]), Tree(l[k:])))
 }
 
-// split answers the greatest power of two that is less than n, for n from 2 on.
-func split(n int) int {
+// Split answers how many of n pairs stand on the left of their tree: the greatest power of two that is less than n, or 0, if there is none.
+func Split(n int) int {
+	if n < 2 {
+		return 0
+	}
 	return 1 << (bits.Len(uint(n-1)) - 1)
 }
 
-func pairBytes(p api.Pair) []byte {
+// PairBytes answers what the tree of p alone is the digest of.
+func PairBytes(p api.Pair) []byte {
 	return slices.Concat([]byte{firstOfPair}, fourBytes(len(p.Key)), p.Key, p.Val)
 }
 
-func forkBytes(left, right []byte) []byte {
+// ForkBytes answers what the tree of two trees is the digest of.
+func ForkBytes(left, right []byte) []byte {
 	return slices.Concat([]byte{firstOfFork}, left, right)
 }
 
-func bookBytes(count int, tree []byte) []byte {
+// BookBytes answers what the root of so many pairs is the digest of.
+func BookBytes(count int, tree []byte) []byte {
 	return slices.Concat([]byte{firstOfBook}, fourBytes(count), tree)
 }
 
