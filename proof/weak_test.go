@@ -134,6 +134,17 @@ func randomProof(r *rand.Rand, l []api.Pair) api.Proof {
 	return p
 }
 
+// checkClashIsNewMemory: what is written into an answer, its spare room too, is seen nowhere else (Z2).
+func checkClashIsNewMemory(t *testing.T, l []api.Pair, p api.Proof) {
+	t.Helper()
+	a, b, _ := Clash(l, p)
+	wantA, wantB := bytes.Clone(a), bytes.Clone(b)
+	checkApart(t, [][]byte{a[:cap(a)], b[:cap(b)]})
+	if a, b, _ = Clash(l, p); !bytes.Equal(a, wantA) || !bytes.Equal(b, wantB) {
+		t.Fatal("what Clash answers is shared")
+	}
+}
+
 func clashes(t *testing.T) {
 	r := rand.New(rand.NewSource(5))
 	seen := map[string]int{}
@@ -145,6 +156,7 @@ func clashes(t *testing.T) {
 		checkShown(t, "by chance", root, p, shown)
 		same := p.Size == len(l) && bytes.Equal(l[p.Index].Key, p.Key) && bytes.Equal(l[p.Index].Val, p.Val)
 		first := checkClash(t, "by chance", l, p, shown && !same)
+		checkClashIsNewMemory(t, l, p)
 		switch {
 		case !shown:
 			seen["not shown"]++
