@@ -131,6 +131,9 @@ func TestNames(t *testing.T) {
 		for _, name := range []string{c, c + "x", "x" + c, "x" + c + "x", strings.Repeat("x", 19) + c} {
 			h.Chain = name
 			checkWrong(t, name, h, want)
+			if IsName(name) != (want == api.OK) {
+				t.Errorf("IsName of %q: another answer", name)
+			}
 		}
 	}
 	for n := range 50 {
