@@ -18,7 +18,7 @@ func Follow(c api.Client, u api.Update, now int) (api.Client, api.Errno) {
 		return api.Client{}, err
 	}
 	h := u.Signed.Header
-	return learn(copied(c), copiedKnown(api.Known{Height: h.Height, Time: h.Time, Root: h.Root, Next: h.Next})), api.OK
+	return learn(Copy(c), copiedKnown(api.Known{Height: h.Height, Time: h.Time, Root: h.Root, Next: h.Next})), api.OK
 }
 
 // Catch answers c, frozen, if a and b are two headers of one height that it would believe.
@@ -35,7 +35,7 @@ func Catch(c api.Client, a, b api.Update, now int) (api.Client, api.Errno) {
 	if !contradict(a.Signed.Header, b.Signed.Header) {
 		return api.Client{}, api.ErrFit
 	}
-	c = copied(c)
+	c = Copy(c)
 	c.Frozen = true
 	return c, api.OK
 }

@@ -128,6 +128,7 @@ func TestAnswersAreNewMemory(t *testing.T) {
 		"Follow, one for it": func() (api.Client, api.Errno) { return Follow(full, u, 14) },
 		"Follow, frozen":     func() (api.Client, api.Errno) { return Follow(late, u, 14) },
 		"Follow, as it was":  func() (api.Client, api.Errno) { return Follow(again, u, 14) },
+		"Copy":               func() (api.Client, api.Errno) { return Copy(again), api.OK },
 		"Catch":              func() (api.Client, api.Errno) { return Catch(c, u, other, 14) },
 		"At": func() (api.Client, api.Errno) {
 			k, _ := At(c, 3)

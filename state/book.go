@@ -38,7 +38,7 @@ func entries(s api.State) []api.Doing {
 		}
 	}
 	for i, c := range s.Conns {
-		put(keyOf("conn", i), connVal(c))
+		put(ConnKey(i), ConnVal(c))
 	}
 	for i, c := range s.Chans {
 		put(keyOf("chan", i), chanVal(c))
@@ -59,8 +59,11 @@ func keyOf(kind string, l ...int) []byte {
 	return out
 }
 
-// The other end's number may be -1, and what is written has no sign: hence one more.
-func connVal(c api.Conn) []byte {
+// ConnKey answers under what a connection with that number stands: on this chain, or on another one that is to be shown.
+func ConnKey(n int) []byte { return keyOf("conn", n) }
+
+// ConnVal answers what stands there of c. The other end's number may be -1, and what is written has no sign: hence one more.
+func ConnVal(c api.Conn) []byte {
 	return numbers(c.State, c.Client, c.OtherClient, c.OtherConn+1)
 }
 

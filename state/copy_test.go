@@ -1,0 +1,100 @@
+package state
+
+import (
+	"bytes"
+	"fmt"
+	"math"
+	"reflect"
+	"testing"
+
+	"landbridge/api"
+)
+
+// tell is the same of nil and of a list without entries.
+func tell(s api.State) string { return fmt.Sprintf("%+v", s) }
+
+// spoilState overwrites all that s reaches, spare room too, and tells whether any two lists of bytes in it share memory.
+func spoilState(s api.State) bool {
+	var pairs []api.Pair
+	for _, c := range s.Clients[:cap(s.Clients)] {
+		for _, k := range c.Known[:cap(c.Known)] {
+			pairs = append(pairs, api.Pair{Key: k.Root, Val: k.Next})
+		}
+		clear(c.Known[:cap(c.Known)])
+	}
+	for _, l := range [][]api.Mark{s.Sent, s.Got, s.Acks} {
+		for _, m := range l[:cap(l)] {
+			pairs = append(pairs, api.Pair{Val: m.Digest})
+		}
+		clear(l[:cap(l)])
+	}
+	clear(s.Clients[:cap(s.Clients)])
+	clear(s.Conns[:cap(s.Conns)])
+	clear(s.Chans[:cap(s.Chans)])
+	clear(s.Purses[:cap(s.Purses)])
+	return spoil(pairs)
+}
+
+// Z2: copies are the same, and share no memory with what they are made of, with each other or within themselves.
+func TestCopy(t *testing.T) {
+	s, parts := roomy()
+	_, before := roomy()
+	want := tell(s)
+	first, second := Copy(s), Copy(s)
+	if tell(first) != want {
+		t.Errorf("%v comes, not %v", first, s)
+	}
+	spoilState(first)
+	if tell(second) != want {
+		t.Error("two copies share memory")
+	}
+	if !reflect.DeepEqual(parts, before) {
+		t.Error("an argument or its spare room has changed")
+	}
+	// One memory for all of them: a copy may not share even what its argument does.
+	one := filled(9)
+	for _, l := range [][]api.Mark{s.Sent, s.Got, s.Acks} {
+		for i := range l {
+			l[i].Digest = one
+		}
+	}
+	if spoilState(Copy(s)) || !bytes.Equal(one, filled(9)) {
+		t.Error("two lists of one copy share memory")
+	}
+}
+
+// Z1 and Z3: a copy is made of what is wrong, too.
+func TestCopyOfWhatever(t *testing.T) {
+	for _, s := range []api.State{
+		{},
+		{Name: "é", Height: math.MinInt, Time: math.MaxInt, Clients: make([]api.Client, 9), Conns: make([]api.Conn, 9), Chans: make([]api.Chan, 9)},
+		{Sent: make([]api.Mark, 99), Got: []api.Mark{}, Acks: []api.Mark{{Digest: []byte{}}}, Purses: make([]api.Purse, 99)},
+	} {
+		if got := Copy(s); tell(got) != tell(s) {
+			t.Errorf("%v comes, not %v", got, s)
+		}
+	}
+}
+
+// H2: what other chains' connections are shown by.
+func TestConnKeysAndVals(t *testing.T) {
+	for _, n := range []int{0, 1, 7, 10, 1000000000000} {
+		if got, want := string(ConnKey(n)), fmt.Sprintf("conn/%d", n); got != want {
+			t.Errorf("%s comes, not %s", got, want)
+		}
+		for _, c := range []api.Conn{
+			{State: api.CoInit, Client: n, OtherClient: 1, OtherConn: -1},
+			{State: api.CoTry, Client: 2, OtherClient: n, OtherConn: 0},
+			{State: api.CoOpen, Client: 3, OtherClient: 4, OtherConn: n},
+		} {
+			if got, want := string(ConnVal(c)), referenceNumbers(c.State, c.Client, c.OtherClient, c.OtherConn+1); got != want {
+				t.Errorf("%v: %x comes, not %x", c, got, want)
+			}
+		}
+	}
+	// Z1: of whatever numbers.
+	for _, n := range []int{math.MinInt, -1, math.MaxInt} {
+		ConnKey(n)
+		ConnVal(api.Conn{State: n, Client: n, OtherClient: n, OtherConn: n})
+	}
+}
