@@ -374,3 +374,26 @@ func TestShownOfStates(t *testing.T) {
 		check(t, "of a state", x, api.OK)
 	}
 }
+
+// I1, of a client alone: which there are, and which of them may be asked.
+func TestDoubtsOfClients(t *testing.T) {
+	s := sample()
+	s.Clients[0].Frozen = true
+	s.Clients[2].Trust = 3
+	for _, n := range edges {
+		want := api.ErrNone
+		switch n {
+		case 0, 2:
+			want = api.ErrState
+		case 1:
+			want = api.OK
+		}
+		if err := DoubtsOfClient(s, n); err != want {
+			t.Errorf("%d: %d comes, not %d", n, err, want)
+		}
+	}
+	// Z1: of whatever states.
+	for _, wrong := range []api.State{{}, {Clients: make([]api.Client, 9), Time: math.MinInt}, {Clients: []api.Client{{Trust: math.MinInt, Known: make([]api.Known, 1)}}, Time: math.MaxInt}} {
+		DoubtsOfClient(wrong, 0)
+	}
+}

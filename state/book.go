@@ -41,7 +41,7 @@ func entries(s api.State) []api.Doing {
 		put(ConnKey(i), ConnVal(c))
 	}
 	for i, c := range s.Chans {
-		put(keyOf("chan", i), chanVal(c))
+		put(ChanKey(i), ChanVal(c))
 		put(keyOf("next", i), numbers(c.Recv))
 	}
 	putMarks("sent", s.Sent)
@@ -67,7 +67,11 @@ func ConnVal(c api.Conn) []byte {
 	return numbers(c.State, c.Client, c.OtherClient, c.OtherConn+1)
 }
 
-func chanVal(c api.Chan) []byte {
+// ChanKey answers under what a channel with that number stands: on this chain, or on another one that is to be shown.
+func ChanKey(n int) []byte { return keyOf("chan", n) }
+
+// ChanVal answers what stands there of c, with the other end's number one more, as ConnVal has it; what is received next stands elsewhere.
+func ChanVal(c api.Chan) []byte {
 	ordered := 0
 	if c.Ordered {
 		ordered = 1

@@ -98,3 +98,27 @@ func TestConnKeysAndVals(t *testing.T) {
 		ConnVal(api.Conn{State: n, Client: n, OtherClient: n, OtherConn: n})
 	}
 }
+
+// H2: what other chains' channels are shown by; the numbers of packets are no part of it.
+func TestChanKeysAndVals(t *testing.T) {
+	for _, n := range []int{0, 1, 7, 10, 1000000000000} {
+		if got, want := string(ChanKey(n)), fmt.Sprintf("chan/%d", n); got != want {
+			t.Errorf("%s comes, not %s", got, want)
+		}
+		for _, c := range []api.Chan{
+			{State: api.ChInit, Conn: n, OtherChan: -1},
+			{State: api.ChTry, Ordered: true, Conn: 2, OtherChan: n},
+			{State: api.ChClosed, Conn: 3, OtherChan: 4, Send: n, Recv: n + 1, Ack: n + 2},
+		} {
+			ordered := map[bool]int{true: 1}[c.Ordered]
+			if got, want := string(ChanVal(c)), referenceNumbers(c.State, ordered, c.Conn, c.OtherChan+1); got != want {
+				t.Errorf("%v: %x comes, not %x", c, got, want)
+			}
+		}
+	}
+	// Z1: of whatever numbers.
+	for _, n := range []int{math.MinInt, -1, math.MaxInt} {
+		ChanKey(n)
+		ChanVal(api.Chan{State: n, Conn: n, OtherChan: n})
+	}
+}
