@@ -495,3 +495,26 @@ func TestShownOfStates(t *testing.T) {
 		check(t, "of a state", y, api.OK)
 	}
 }
+
+// J1, of an end alone: it must stand in one of the ways that are told, however many these are.
+func TestDoubtsOfEnds(t *testing.T) {
+	for _, n := range edges {
+		for _, stands := range [][]int{nil, {3}, {4}, {3, 4}, {4, 3}, {1, 2, 3, 4}, {1, 2}, {0, 5}, {-1, math.MaxInt, 4}} {
+			s := sample()
+			want := api.ErrNone
+			if c, there := entry(s.Chans, n); there {
+				want = api.ErrState
+				if slices.Contains(stands, c.State) {
+					want = api.OK
+				}
+			}
+			if err := DoubtsOfEnd(s, n, stands...); err != want {
+				t.Errorf("channel %d, one of %v: %d comes, not %d", n, stands, err, want)
+			}
+			s.Name = "A"
+			if err := DoubtsOfEnd(s, n, stands...); err != api.ErrName {
+				t.Errorf("channel %d, one of %v, of a wrong state: %d comes", n, stands, err)
+			}
+		}
+	}
+}

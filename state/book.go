@@ -32,9 +32,9 @@ func Root(s api.State) ([]byte, api.Errno) {
 func entries(s api.State) []api.Doing {
 	var out []api.Doing
 	put := func(key, val []byte) { out = append(out, api.Doing{Key: key, Val: val}) }
-	putMarks := func(kind string, l []api.Mark) {
+	putMarks := func(key func(ch, seq int) []byte, l []api.Mark) {
 		for _, m := range l {
-			put(keyOf(kind, m.Chan, m.Seq), m.Digest)
+			put(key(m.Chan, m.Seq), m.Digest)
 		}
 	}
 	for i, c := range s.Conns {
@@ -42,11 +42,11 @@ func entries(s api.State) []api.Doing {
 	}
 	for i, c := range s.Chans {
 		put(ChanKey(i), ChanVal(c))
-		put(keyOf("next", i), numbers(c.Recv))
+		put(NextKey(i), NextVal(c.Recv))
 	}
-	putMarks("sent", s.Sent)
-	putMarks("got", s.Got)
-	putMarks("ack", s.Acks)
+	putMarks(SentKey, s.Sent)
+	putMarks(GotKey, s.Got)
+	putMarks(AckKey, s.Acks)
 	return out
 }
 
@@ -78,6 +78,21 @@ func ChanVal(c api.Chan) []byte {
 	}
 	return numbers(c.State, ordered, c.Conn, c.OtherChan+1)
 }
+
+// NextKey answers under what it stands which packet a channel with that number receives next.
+func NextKey(n int) []byte { return keyOf("next", n) }
+
+// NextVal answers what stands there.
+func NextVal(recv int) []byte { return numbers(recv) }
+
+// SentKey answers under what the digest of a packet stands that was sent over a channel, and not yet settled.
+func SentKey(ch, seq int) []byte { return keyOf("sent", ch, seq) }
+
+// GotKey answers under what the digest of a packet stands that was received over a channel that is not ordered.
+func GotKey(ch, seq int) []byte { return keyOf("got", ch, seq) }
+
+// AckKey answers under what the digest of the answer to a packet stands that was received over a channel.
+func AckKey(ch, seq int) []byte { return keyOf("ack", ch, seq) }
 
 // numbers is for a few that are not below 0: what is written of them is never too much.
 func numbers(l ...int) []byte {

@@ -122,3 +122,44 @@ func TestChanKeysAndVals(t *testing.T) {
 		ChanVal(api.Chan{State: n, Conn: n, OtherChan: n})
 	}
 }
+
+// H2: what other chains' packets, and what they receive next, are shown by.
+func TestKeysOfPackets(t *testing.T) {
+	for _, ch := range []int{0, 1, 7, 10, 1000000000000} {
+		for _, seq := range []int{1, 2, 10, 300, 1000000000000} {
+			for want, got := range map[string][]byte{
+				fmt.Sprintf("sent/%d/%d", ch, seq): SentKey(ch, seq),
+				fmt.Sprintf("got/%d/%d", ch, seq):  GotKey(ch, seq),
+				fmt.Sprintf("ack/%d/%d", ch, seq):  AckKey(ch, seq),
+				fmt.Sprintf("next/%d", ch):         NextKey(ch),
+				referenceNumbers(seq):              NextVal(seq),
+			} {
+				if string(got) != want {
+					t.Errorf("%q comes, not %q", got, want)
+				}
+			}
+		}
+	}
+	// Z1: of whatever numbers.
+	for _, n := range []int{math.MinInt, -1, math.MaxInt} {
+		SentKey(n, n)
+		GotKey(n, n)
+		AckKey(n, n)
+		NextKey(n)
+		NextVal(n)
+	}
+}
+
+// H1: by the channel, then the number, whatever the digest is.
+func TestCompareMarks(t *testing.T) {
+	rising := []api.Mark{{Chan: math.MinInt, Seq: 5}, {Chan: 0, Seq: 1}, {Chan: 0, Seq: 2}, {Chan: 0, Seq: 10}, {Chan: 1, Seq: math.MinInt}, {Chan: 1, Seq: 1}, {Chan: 2, Seq: 1}, {Chan: 10, Seq: 1}, {Chan: math.MaxInt, Seq: 4}}
+	for i, a := range rising {
+		for j, b := range rising {
+			a.Digest, b.Digest = filled(byte(j)), filled(byte(i))
+			got := CompareMarks(a, b)
+			if (got < 0) != (i < j) || (got > 0) != (i > j) {
+				t.Errorf("%v and %v: %d comes", a, b, got)
+			}
+		}
+	}
+}
