@@ -5,6 +5,7 @@ import (
 	"fmt"
 	"math"
 	"reflect"
+	"strings"
 	"testing"
 
 	"landbridge/api"
@@ -159,6 +160,31 @@ func TestCompareMarks(t *testing.T) {
 			got := CompareMarks(a, b)
 			if (got < 0) != (i < j) || (got > 0) != (i > j) {
 				t.Errorf("%v and %v: %d comes", a, b, got)
+			}
+		}
+	}
+}
+
+// H1: by the owner, then what is owned, byte by byte, whatever the amount is.
+func TestComparePurses(t *testing.T) {
+	rising := []api.Purse{{}, {Denom: "z"}, {Owner: "#0", Denom: "gold"}, {Owner: "#10", Denom: "gold"}, {Owner: "#2", Denom: "gold"}, {Owner: "A", Denom: "z"}, {Owner: "a"}, {Owner: "a", Denom: "bc"}, {Owner: "a", Denom: "bcd"}, {Owner: "ab", Denom: "c"}, {Owner: "ab", Denom: "\xff"}, {Owner: "é", Denom: "a"}, {Owner: "\xff", Denom: "a"}}
+	for i, a := range rising {
+		for j, b := range rising {
+			a.Amount, b.Amount = uint64(j), uint64(i)
+			got := ComparePurses(a, b)
+			if (got < 0) != (i < j) || (got > 0) != (i > j) {
+				t.Errorf("%v and %v: %d comes", a, b, got)
+			}
+		}
+	}
+}
+
+// H1
+func TestIsWord(t *testing.T) {
+	for n := range 100 {
+		for _, c := range []string{"x", "\x00", "\xff", "/"} {
+			if got := IsWord(strings.Repeat(c, n)); got != (n >= 1 && n <= 40) {
+				t.Errorf("%d bytes: %v comes", n, got)
 			}
 		}
 	}
