@@ -67,8 +67,14 @@ func Come(l []api.Purse, ch, other int, t api.Transfer) ([]api.Purse, api.Errno)
 	return Mint(l, t.Reader, cameOver(ch)+t.Denom, t.Amount)
 }
 
+// safe is how all safes are called, at their beginning.
+const safe = "#"
+
+// BeginsAsSafe answers whether owner is called, at its beginning, as safes are: nobody else is to be, or what is kept there could be taken away.
+func BeginsAsSafe(owner string) bool { return strings.HasPrefix(owner, safe) }
+
 // safeOf answers the owner of what is kept here while it is away over channel ch.
-func safeOf(ch int) string { return "#" + strconv.Itoa(ch) }
+func safeOf(ch int) string { return safe + strconv.Itoa(ch) }
 
 // cameOver answers how all is called, at its beginning, that came over channel ch.
 func cameOver(ch int) string { return strconv.Itoa(ch) + "/" }

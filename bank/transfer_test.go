@@ -182,6 +182,24 @@ func checkHome(t *testing.T, denom string, ch int, came bool) {
 	}
 }
 
+// L3: safes begin with a sign that others begin with, too; who merely has it begins otherwise.
+func TestWhatBeginsAsSafe(t *testing.T) {
+	for owner, want := range map[string]bool{
+		"#": true, "#0": true, "#10": true, "#x": true, "##": true, "#" + strings.Repeat("x", 1<<16): true,
+		"": false, "0": false, "ann": false, "0#": false, " #0": false, "\x00#": false, "\"": false, "$0": false, "\uff03": false,
+	} {
+		if got := BeginsAsSafe(owner); got != want {
+			t.Errorf("%.50q: %v comes", owner, got)
+		}
+	}
+	for _, ch := range []int{0, 7, 10, api.MaxNum} {
+		l, err := Leave([]api.Purse{{Owner: "ann", Denom: "gold", Amount: 1}}, ch, api.Transfer{Denom: "gold", Amount: 1, Sender: "ann", Reader: "bob"})
+		if err != api.OK || len(l) != 1 || !BeginsAsSafe(l[0].Owner) {
+			t.Errorf("channel %d: %v and %d come", ch, l, err)
+		}
+	}
+}
+
 // L3: all of the sender's, of the safe's, and more than there is.
 func TestHowMuchLeavesAndComes(t *testing.T) {
 	l := []api.Purse{{Owner: "#3", Denom: "gold", Amount: 8}, {Owner: "ann", Denom: "3/gold", Amount: 6}, {Owner: "ann", Denom: "gold", Amount: 5}}
